@@ -1,0 +1,1 @@
+"""Reflected mixed-radix Gray code; the functions stand in stepdigits.digits."""

@@ -1,0 +1,45 @@
+"""The reflected mixed-radix Gray code: each element and its index."""
+
+MOST_DIGITS = 5
+LARGEST_RADIX = 6
+
+OUTSIDE_LIMITS = -22
+NO_SUCH_ELEMENT = -33
+
+
+def radices_within_limits(radices):
+    """Tell whether there are 1 to 5 radices, each from 1 to 6."""
+    if len(radices) < 1 or len(radices) > MOST_DIGITS:
+        return False
+    for radix in radices:
+        if radix < 1 or radix > LARGEST_RADIX:
+            return False
+    return True
+
+
+def size_of(radices):
+    """Answer how many lists of digits these radices allow."""
+    size = 1
+    for radix in radices:
+        size = size * radix
+    return size
+
+
+def element_at(index, radices):
+    """Answer the number of digits and then the digits of the element with this index."""
+    if not radices_within_limits(radices):
+        return [OUTSIDE_LIMITS]
+    group_size = size_of(radices)
+    if index >= group_size:
+        return [NO_SUCH_ELEMENT]
+    answer = [len(radices)]
+    place = index
+    for radix in radices:
+        group_size = group_size // radix
+        digit = place // group_size
+        place = place % group_size
+        if digit % 2 == 1:
+            # The group behind an odd digit runs in reversed order.
+            place = group_size - 1 - place
+        answer.append(digit)
+    return answer

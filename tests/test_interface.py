@@ -1,0 +1,66 @@
+"""The interface: the names, the form of what is answered, and nothing besides."""
+
+import ast
+import contextlib
+import inspect
+import io
+import unittest
+
+from stepdigits import digits
+
+# Each function with its parameters, a call that succeeds and calls that are refused.
+FUNCTIONS = (
+    ("element_at", ["index", "radices"], (3, [2, 3]), ((6, [2, 3]), (0, []))),
+)
+
+
+def kept_in_module():
+    """What the module holds, without what Python itself puts there."""
+    return {name: repr(kept) for name, kept in vars(digits).items() if not name.startswith("__")}
+
+
+class Interface(unittest.TestCase):
+    def test_parameters(self):
+        for name, parameters, _, _ in FUNCTIONS:
+            found = inspect.signature(getattr(digits, name)).parameters
+            self.assertEqual(list(found), parameters)
+            for parameter in found.values():
+                self.assertIs(parameter.default, inspect.Parameter.empty)
+
+    def test_call_by_names(self):
+        for name, parameters, call, _ in FUNCTIONS:
+            function = getattr(digits, name)
+            named = dict(zip(parameters, call, strict=True))
+            self.assertEqual(function(**named), function(*call))
+
+    def test_answer_is_one_list_of_whole_numbers(self):
+        for name, _, call, refused in FUNCTIONS:
+            for asked in (call,) + refused:
+                answer = getattr(digits, name)(*asked)
+                self.assertIs(type(answer), list)
+                self.assertEqual({type(number) for number in answer}, {int})
+
+    def test_only_a_refusal_is_below_0_and_it_stands_alone(self):
+        for name, _, call, refused in FUNCTIONS:
+            self.assertGreaterEqual(min(getattr(digits, name)(*call)), 0)
+            for asked in refused:
+                answer = getattr(digits, name)(*asked)
+                self.assertEqual(len(answer), 1)
+                self.assertLess(answer[0], 0)
+
+    def test_prints_nothing_and_keeps_nothing(self):
+        before = kept_in_module()
+        printed = io.StringIO()
+        with contextlib.redirect_stdout(printed), contextlib.redirect_stderr(printed):
+            for name, _, call, refused in FUNCTIONS:
+                for asked in (call,) + refused:
+                    getattr(digits, name)(*asked)
+        self.assertEqual(printed.getvalue(), "")
+        self.assertEqual(kept_in_module(), before)
+
+    def test_imports_and_reads_nothing(self):
+        with open(digits.__file__, encoding="ascii") as source:
+            nodes = list(ast.walk(ast.parse(source.read())))
+        self.assertEqual([n for n in nodes if isinstance(n, (ast.Import, ast.ImportFrom))], [])
+        names = {n.id for n in nodes if isinstance(n, ast.Name)}
+        self.assertEqual(names & {"open", "input", "print", "__import__", "eval", "exec"}, set())
