@@ -25,6 +25,16 @@ def size_of(radices):
     return size
 
 
+def is_element(element, radices):
+    """Tell whether there is one digit for each radix and each is less than its radix."""
+    if len(element) != len(radices):
+        return False
+    for digit, radix in zip(element, radices):
+        if digit >= radix:
+            return False
+    return True
+
+
 def element_at(index, radices):
     """Answer the number of digits and then the digits of the element with this index."""
     if not radices_within_limits(radices):
@@ -43,3 +53,21 @@ def element_at(index, radices):
             place = group_size - 1 - place
         answer.append(digit)
     return answer
+
+
+def index_of(radices, element):
+    """Answer the index of the element."""
+    if not radices_within_limits(radices):
+        return [OUTSIDE_LIMITS]
+    if not is_element(element, radices):
+        return [OUTSIDE_LIMITS]
+    group_size = 1
+    place = 0
+    for position in range(len(radices) - 1, -1, -1):
+        digit = element[position]
+        if digit % 2 == 1:
+            # The group behind an odd digit runs in reversed order.
+            place = group_size - 1 - place
+        place = digit * group_size + place
+        group_size = group_size * radices[position]
+    return [place]

@@ -44,13 +44,13 @@ FIVE_RADICES = (
 )
 
 
-def all_radices(longest):
-    """All radices within their limits with 1 to `longest` digits."""
+def many_radices(longest):
+    """All radices within their limits with 1 to `longest` digits, and some with 5."""
     found = []
     for length in range(1, longest + 1):
         for radices in itertools.product(range(1, 7), repeat=length):
             found.append(list(radices))
-    return found
+    return found + list(FIVE_RADICES)
 
 
 def in_order(radices):

@@ -31,17 +31,10 @@ class Examples(unittest.TestCase):
 
 
 class Order(unittest.TestCase):
-    def assert_order(self, radices):
-        for index, digits in enumerate(helper.in_order(radices)):
-            self.assertEqual(element_at(index, radices), [len(radices)] + digits, (index, radices))
-
-    def test_all_radices_up_to_four_digits(self):
-        for radices in helper.all_radices(4):
-            self.assert_order(radices)
-
-    def test_radices_with_five_digits(self):
-        for radices in helper.FIVE_RADICES:
-            self.assert_order(radices)
+    def test_all_indices_of_many_radices(self):
+        for radices in helper.many_radices(4):
+            for index, digits in enumerate(helper.in_order(radices)):
+                self.assertEqual(element_at(index, radices), [len(radices)] + digits, (index, radices))
 
     def test_even_and_odd_first_digits(self):
         wanted = [[0, 0], [0, 1], [1, 1], [1, 0], [2, 0], [2, 1], [3, 1], [3, 0]]
@@ -55,7 +48,7 @@ class Order(unittest.TestCase):
         self.assertEqual(listed([2, 3, 2], 12), wanted)
 
     def test_consecutive_ones_have_the_distance_1(self):
-        for radices in helper.all_radices(3) + list(helper.FIVE_RADICES):
+        for radices in helper.many_radices(3):
             found = listed(radices, len(helper.in_order(radices)))
             for before, after in zip(found, found[1:]):
                 self.assertEqual(steps_between(before, after), 1, (radices, before, after))
@@ -63,7 +56,7 @@ class Order(unittest.TestCase):
 
 class Edges(unittest.TestCase):
     def test_index_0_has_only_digits_0(self):
-        for radices in helper.all_radices(4) + list(helper.FIVE_RADICES):
+        for radices in helper.many_radices(4):
             self.assertEqual(element_at(0, radices), [len(radices)] + [0] * len(radices))
 
     def test_last_index(self):
@@ -74,7 +67,7 @@ class Edges(unittest.TestCase):
         self.assertEqual(element_at(3124, [5, 5, 5, 5, 5]), [5, 4, 4, 4, 4, 4])
 
     def test_index_size_and_above(self):
-        for radices in helper.all_radices(3) + list(helper.FIVE_RADICES):
+        for radices in helper.many_radices(3):
             size = len(helper.in_order(radices))
             self.assertEqual(len(element_at(size - 1, radices)), 1 + len(radices), radices)
             for index in (size, size + 1, 2 * size, helper.LARGEST_NUMBER):

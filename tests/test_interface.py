@@ -8,9 +8,21 @@ import unittest
 
 from stepdigits import digits
 
-# Each function with its parameters, a call that succeeds and calls that are refused.
+# Each function with its parameters, calls that are answered and calls that are refused.
+# The numbers 0 and 1 are answered too: they would equal False and True.
 FUNCTIONS = (
-    ("element_at", ["index", "radices"], (3, [2, 3]), ((6, [2, 3]), (0, []))),
+    (
+        "element_at",
+        ["index", "radices"],
+        ((3, [2, 3]), (0, [1]), (0, [2, 3]), (1, [2, 3])),
+        ((6, [2, 3]), (0, [])),
+    ),
+    (
+        "index_of",
+        ["radices", "element"],
+        (([2, 3], [1, 0]), ([1], [0]), ([2, 3], [0, 0]), ([2, 3], [0, 1])),
+        (([2, 3], [1, 3]), ([], [])),
+    ),
 )
 
 
@@ -28,21 +40,22 @@ class Interface(unittest.TestCase):
                 self.assertIs(parameter.default, inspect.Parameter.empty)
 
     def test_call_by_names(self):
-        for name, parameters, call, _ in FUNCTIONS:
+        for name, parameters, answered, _ in FUNCTIONS:
             function = getattr(digits, name)
-            named = dict(zip(parameters, call, strict=True))
-            self.assertEqual(function(**named), function(*call))
+            named = dict(zip(parameters, answered[0], strict=True))
+            self.assertEqual(function(**named), function(*answered[0]))
 
     def test_answer_is_one_list_of_whole_numbers(self):
-        for name, _, call, refused in FUNCTIONS:
-            for asked in (call,) + refused:
+        for name, _, answered, refused in FUNCTIONS:
+            for asked in answered + refused:
                 answer = getattr(digits, name)(*asked)
                 self.assertIs(type(answer), list)
                 self.assertEqual({type(number) for number in answer}, {int})
 
     def test_only_a_refusal_is_below_0_and_it_stands_alone(self):
-        for name, _, call, refused in FUNCTIONS:
-            self.assertGreaterEqual(min(getattr(digits, name)(*call)), 0)
+        for name, _, answered, refused in FUNCTIONS:
+            for asked in answered:
+                self.assertGreaterEqual(min(getattr(digits, name)(*asked)), 0)
             for asked in refused:
                 answer = getattr(digits, name)(*asked)
                 self.assertEqual(len(answer), 1)
@@ -52,8 +65,8 @@ class Interface(unittest.TestCase):
         before = kept_in_module()
         printed = io.StringIO()
         with contextlib.redirect_stdout(printed), contextlib.redirect_stderr(printed):
-            for name, _, call, refused in FUNCTIONS:
-                for asked in (call,) + refused:
+            for name, _, answered, refused in FUNCTIONS:
+                for asked in answered + refused:
                     getattr(digits, name)(*asked)
         self.assertEqual(printed.getvalue(), "")
         self.assertEqual(kept_in_module(), before)
