@@ -1,4 +1,4 @@
-"""The reflected mixed-radix Gray code: each element and its index."""
+"""The reflected mixed-radix Gray code: each element, its index and the element behind it."""
 
 MOST_DIGITS = 5
 LARGEST_RADIX = 6
@@ -71,3 +71,25 @@ def index_of(radices, element):
         place = digit * group_size + place
         group_size = group_size * radices[position]
     return [place]
+
+
+def runs_upward(element, position):
+    """Tell whether the digit at this position grows while those ahead of it stay."""
+    # Each odd digit ahead reverses the order behind it, so two of them leave it as it was.
+    return sum(element[:position]) % 2 == 0
+
+
+def successor(radices, element):
+    """Answer the position of the digit that changes, 1 or 0 as it grows or falls, and the next element."""
+    if not radices_within_limits(radices):
+        return [OUTSIDE_LIMITS]
+    if not is_element(element, radices):
+        return [OUTSIDE_LIMITS]
+    # A digit changes only when each digit behind it has come to the end of its run.
+    for position in range(len(radices) - 1, -1, -1):
+        upward = runs_upward(element, position)
+        changed = element[position] + (1 if upward else -1)
+        if changed >= 0 and changed < radices[position]:
+            following = element[:position] + [changed] + element[position + 1:]
+            return [position, 1 if upward else 0] + following
+    return [NO_SUCH_ELEMENT]

@@ -31,6 +31,19 @@ WRONG_RADICES = (
     [LARGEST_NUMBER] * 7,
 )
 
+# Elements that a call with wrong radices may come with.
+ANY_ELEMENTS = (
+    [],
+    [0],
+    [6],
+    [0, 0, 0],
+    [1, 0, 2],
+    [0] * 5,
+    [0] * 6,
+    [0] * 7,
+    [LARGEST_NUMBER] * 3,
+)
+
 # With 5 digits a few radices only: all of them would take long.
 FIVE_RADICES = (
     [1, 1, 1, 1, 1],
@@ -66,6 +79,31 @@ def in_order(radices):
     return listed
 
 
+def elements_for_wrong_radices(radices):
+    """Elements to ask with; the last two have a digit for each radix, where a radix allows one."""
+    return ANY_ELEMENTS + ([0] * len(radices), [max(radix, 1) - 1 for radix in radices])
+
+
+def wrong_lengths(radices):
+    """Lists of digits that are no elements as they have too few or too many, or none."""
+    found = []
+    for whole in (in_order(radices)[0], in_order(radices)[-1]):
+        for length in range(8):
+            if length != len(radices):
+                found.append((whole + [0] * 7)[:length])
+    return found
+
+
+def wrong_digits(radices):
+    """Lists of digits that are no elements as one digit isn't less than its radix."""
+    found = []
+    for whole in (in_order(radices)[0], in_order(radices)[-1]):
+        for position, radix in enumerate(radices):
+            for digit in (radix, radix + 1, LARGEST_NUMBER):
+                found.append(whole[:position] + [digit] + whole[position + 1:])
+    return found
+
+
 def refuse(*_, **__):
     raise AssertionError("a list that was handed in is changed")
 
@@ -75,3 +113,29 @@ class FrozenList(list):
 
     __setitem__ = __delitem__ = __iadd__ = __imul__ = refuse
     append = clear = extend = insert = pop = remove = reverse = sort = refuse
+
+
+class NothingKeptOrChanged:
+    """Tests for a TestCase that has a `function` and its `calls`, each a tuple of what is handed in."""
+
+    def answers(self, calls):
+        return [self.function(*call) for call in calls]
+
+    def test_lists_stay_as_they_were(self):
+        for call in self.calls:
+            handed_in = tuple(FrozenList(given) if isinstance(given, list) else given for given in call)
+            self.function(*handed_in)
+            self.assertEqual(handed_in, call)
+
+    def test_second_call_answers_as_the_first(self):
+        first_answers = self.answers(self.calls)
+        self.assertEqual(self.answers(self.calls), first_answers)
+        self.assertEqual(self.answers(reversed(self.calls)), first_answers[::-1])
+
+    def test_an_answer_belongs_to_the_caller(self):
+        for call in self.calls:
+            answer = self.function(*call)
+            kept = list(answer)
+            answer[0] = 9
+            answer.extend([9, 9])
+            self.assertEqual(self.function(*call), kept)

@@ -91,23 +91,18 @@ class WrongRadices(unittest.TestCase):
                 self.assertEqual(element_at(index, radices), helper.OUTSIDE_LIMITS, (index, radices))
 
 
-class NothingKeptOrChanged(unittest.TestCase):
-    def test_radices_stay_as_they_were(self):
-        for radices in ([2, 3], [6, 6, 6, 6, 6], [1], [], [2, 7], [1] * 7):
-            for index in (0, 3, helper.LARGEST_NUMBER):
-                handed_in = helper.FrozenList(radices)
-                element_at(index, handed_in)
-                self.assertEqual(handed_in, radices)
-
-    def test_second_call_answers_as_the_first(self):
-        calls = ((3, [2, 3]), (6, [2, 3]), (0, [0]), (40, [3, 4, 5]), (7775, [6] * 5))
-        first_answers = [element_at(*call) for call in calls]
-        self.assertEqual([element_at(*call) for call in calls], first_answers)
-
-    def test_an_answer_belongs_to_the_caller(self):
-        for call in ((3, [2, 3]), (6, [2, 3]), (0, [])):
-            answer = element_at(*call)
-            kept = list(answer)
-            answer.append(9)
-            answer[0] = 9
-            self.assertEqual(element_at(*call), kept)
+class NothingKeptOrChanged(helper.NothingKeptOrChanged, unittest.TestCase):
+    function = staticmethod(element_at)
+    calls = (
+        (3, [2, 3]),
+        (6, [2, 3]),
+        (helper.LARGEST_NUMBER, [2, 3]),
+        (40, [3, 4, 5]),
+        (7775, [6] * 5),
+        (0, [1]),
+        (1, [1]),
+        (0, []),
+        (0, [0]),
+        (3, [2, 7]),
+        (0, [1] * 7),
+    )

@@ -5,19 +5,6 @@ import unittest
 from stepdigits.digits import element_at, index_of
 from tests import helper
 
-# Elements that a call with wrong radices may come with.
-ANY_ELEMENTS = (
-    [],
-    [0],
-    [6],
-    [0, 0, 0],
-    [1, 0, 2],
-    [0] * 5,
-    [0] * 6,
-    [0] * 7,
-    [helper.LARGEST_NUMBER] * 3,
-)
-
 
 class Examples(unittest.TestCase):
     def test_index_of_the_example(self):
@@ -86,18 +73,13 @@ class Edges(unittest.TestCase):
 class WrongElements(unittest.TestCase):
     def test_too_few_or_too_many_digits(self):
         for radices in helper.many_radices(3):
-            for length in range(8):
-                if length != len(radices):
-                    element = [0] * length
-                    self.assertEqual(index_of(radices, element), helper.OUTSIDE_LIMITS, (radices, element))
+            for element in helper.wrong_lengths(radices):
+                self.assertEqual(index_of(radices, element), helper.OUTSIDE_LIMITS, (radices, element))
 
     def test_a_digit_not_less_than_its_radix(self):
         for radices in helper.many_radices(3):
-            for position, radix in enumerate(radices):
-                for digit in (radix, radix + 1, helper.LARGEST_NUMBER):
-                    element = [0] * len(radices)
-                    element[position] = digit
-                    self.assertEqual(index_of(radices, element), helper.OUTSIDE_LIMITS, (radices, element))
+            for element in helper.wrong_digits(radices):
+                self.assertEqual(index_of(radices, element), helper.OUTSIDE_LIMITS, (radices, element))
 
     def test_each_digit_is_held_against_its_own_radix(self):
         self.assertEqual(index_of([2, 3], [2, 1]), helper.OUTSIDE_LIMITS)
@@ -107,38 +89,21 @@ class WrongElements(unittest.TestCase):
 class WrongRadices(unittest.TestCase):
     def test_refused_whatever_the_element_is(self):
         for radices in helper.WRONG_RADICES:
-            # The last two have a digit for each radix, where a radix allows one.
-            smallest = [0] * len(radices)
-            largest = [max(radix, 1) - 1 for radix in radices]
-            for element in ANY_ELEMENTS + (smallest, largest):
+            for element in helper.elements_for_wrong_radices(radices):
                 self.assertEqual(index_of(radices, element), helper.OUTSIDE_LIMITS, (radices, element))
 
 
-class NothingKeptOrChanged(unittest.TestCase):
-    def test_lists_stay_as_they_were(self):
-        calls = (
-            ([2, 3], [1, 0]),
-            ([6] * 5, [5, 4, 3, 2, 1]),
-            ([2, 3], [1, 3]),
-            ([2, 3], [1]),
-            ([2, 3], []),
-            ([], []),
-            ([2, 7], [1, 6]),
-        )
-        for radices, element in calls:
-            handed_in = (helper.FrozenList(radices), helper.FrozenList(element))
-            index_of(*handed_in)
-            self.assertEqual(handed_in, (radices, element))
-
-    def test_second_call_answers_as_the_first(self):
-        calls = (([2, 3], [1, 0]), ([2, 3], [0, 3]), ([0], [0]), ([3, 4, 5], [2, 1, 3]), ([6] * 5, [5, 5, 5, 5, 5]))
-        first_answers = [index_of(*call) for call in calls]
-        self.assertEqual([index_of(*call) for call in calls], first_answers)
-
-    def test_an_answer_belongs_to_the_caller(self):
-        for call in (([2, 3], [1, 0]), ([2, 3], [0, 3]), ([], [])):
-            answer = index_of(*call)
-            kept = list(answer)
-            answer.append(9)
-            answer[0] = 9
-            self.assertEqual(index_of(*call), kept)
+class NothingKeptOrChanged(helper.NothingKeptOrChanged, unittest.TestCase):
+    function = staticmethod(index_of)
+    calls = (
+        ([2, 3], [1, 0]),
+        ([6] * 5, [5, 4, 3, 2, 1]),
+        ([6] * 5, [5, 5, 5, 5, 5]),
+        ([2, 3], [1, 3]),
+        ([2, 3], [1]),
+        ([2, 3], []),
+        ([3, 4, 5], [2, 1, 3]),
+        ([0], [0]),
+        ([], []),
+        ([2, 7], [1, 6]),
+    )
