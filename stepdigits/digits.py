@@ -1,4 +1,4 @@
-"""The reflected mixed-radix Gray code: each element, its index and the element behind it."""
+"""The reflected mixed-radix Gray code: each element, its index, the element behind it, and the last one."""
 
 MOST_DIGITS = 5
 LARGEST_RADIX = 6
@@ -93,3 +93,12 @@ def successor(radices, element):
             following = element[:position] + [changed] + element[position + 1:]
             return [position, 1 if upward else 0] + following
     return [NO_SUCH_ELEMENT]
+
+
+def last_element(radices):
+    """Answer how many lists of digits there are, and then the digits of the last one."""
+    if not radices_within_limits(radices):
+        return [OUTSIDE_LIMITS]
+    size = size_of(radices)
+    # What element_at answers begins with the number of digits.
+    return [size] + element_at(size - 1, radices)[1:]

@@ -7,29 +7,33 @@ LARGEST_NUMBER = 4294967295
 OUTSIDE_LIMITS = [-22]
 NO_SUCH_ELEMENT = [-33]
 
+
+def one_wrong_radix():
+    """Each wrong radix in each position, with the others all right."""
+    found = []
+    for right in ([2, 3, 2, 3, 2], [1, 1, 1, 1, 1], [6, 6, 6, 6, 6]):
+        for wrong in (0, 7, LARGEST_NUMBER):
+            for length in range(1, 6):
+                for position in range(length):
+                    found.append(right[:position] + [wrong] + right[position + 1:length])
+    return found
+
+
 # Radices that are outside their limits, each for a reason of its own.
-WRONG_RADICES = (
+WRONG_RADICES = [
     [],
     [2, 2, 2, 2, 2, 2],
     [1, 1, 1, 1, 1, 1],
+    [6, 6, 6, 6, 6, 6],
     [2, 2, 2, 2, 2, 2, 2],
     [1, 1, 1, 1, 1, 1, 1],
-    [0],
-    [0, 2, 3],
-    [2, 0, 3],
-    [2, 3, 0],
+    [6, 6, 6, 6, 6, 6, 6],
     [0, 0, 0, 0, 0],
-    [7],
-    [7, 2, 3],
-    [2, 7, 3],
-    [2, 3, 7],
-    [6, 6, 6, 6, 7],
-    [LARGEST_NUMBER],
-    [LARGEST_NUMBER, 2, 3],
-    [2, LARGEST_NUMBER, 3],
-    [2, 3, LARGEST_NUMBER],
+    [7, 7, 7, 7, 7],
+    [0, 7],
+    [7, 0],
     [LARGEST_NUMBER] * 7,
-)
+] + one_wrong_radix()
 
 # Elements that a call with wrong radices may come with.
 ANY_ELEMENTS = (
