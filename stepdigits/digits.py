@@ -1,8 +1,9 @@
-"""The reflected mixed-radix Gray code: each element, its index, the element behind it, and the last one."""
+"""The reflected mixed-radix Gray code: its order, and how often a digit changes in it."""
 
 MOST_DIGITS = 5
 LARGEST_RADIX = 6
 
+NO_SUCH_DIGIT = -2
 OUTSIDE_LIMITS = -22
 NO_SUCH_ELEMENT = -33
 
@@ -102,3 +103,17 @@ def last_element(radices):
     size = size_of(radices)
     # What element_at answers begins with the number of digits.
     return [size] + element_at(size - 1, radices)[1:]
+
+
+def count_changes(digit, steps, radices):
+    """Answer in how many of the first steps the digit at this position changes."""
+    if not radices_within_limits(radices):
+        return [OUTSIDE_LIMITS]
+    if digit >= len(radices):
+        return [NO_SUCH_DIGIT]
+    if steps >= size_of(radices):
+        return [OUTSIDE_LIMITS]
+    # Each time the digits behind have been through all they allow, this digit or one ahead of it changes.
+    here_or_ahead = steps // size_of(radices[digit + 1:])
+    ahead = steps // size_of(radices[digit:])
+    return [here_or_ahead - ahead]

@@ -4,6 +4,7 @@ import itertools
 
 LARGEST_NUMBER = 4294967295
 
+NO_SUCH_DIGIT = [-2]
 OUTSIDE_LIMITS = [-22]
 NO_SUCH_ELEMENT = [-33]
 
