@@ -1,4 +1,4 @@
-"""The reflected mixed-radix Gray code: its order, and how often a digit changes in it."""
+"""The reflected mixed-radix Gray code: its order, how often a digit changes in it, and how far two are apart."""
 
 MOST_DIGITS = 5
 LARGEST_RADIX = 6
@@ -117,3 +117,15 @@ def count_changes(digit, steps, radices):
     here_or_ahead = steps // size_of(radices[digit + 1:])
     ahead = steps // size_of(radices[digit:])
     return [here_or_ahead - ahead]
+
+
+def distance(radices, first, second):
+    """Answer the sum of the differences of the digits, and the difference of the indices."""
+    if not radices_within_limits(radices):
+        return [OUTSIDE_LIMITS]
+    if not is_element(first, radices) or not is_element(second, radices):
+        return [OUTSIDE_LIMITS]
+    apart = sum([abs(one - other) for one, other in zip(first, second)])
+    first_index = index_of(radices, first)[0]
+    second_index = index_of(radices, second)[0]
+    return [apart, abs(first_index - second_index)]

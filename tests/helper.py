@@ -62,12 +62,16 @@ FIVE_RADICES = (
 )
 
 
+def all_radices(length):
+    """All radices within their limits with this many digits."""
+    return [list(radices) for radices in itertools.product(range(1, 7), repeat=length)]
+
+
 def many_radices(longest):
     """All radices within their limits with 1 to `longest` digits, and some with 5."""
     found = []
     for length in range(1, longest + 1):
-        for radices in itertools.product(range(1, 7), repeat=length):
-            found.append(list(radices))
+        found.extend(all_radices(length))
     return found + list(FIVE_RADICES)
 
 
@@ -82,6 +86,11 @@ def in_order(radices):
         for rest in group:
             listed.append([first] + rest)
     return listed
+
+
+def digits_apart(first, second):
+    """The distance of two elements, as the document's "Terms" tell it."""
+    return sum(abs(a - b) for a, b in zip(first, second, strict=True))
 
 
 def elements_for_wrong_radices(radices):

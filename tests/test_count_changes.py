@@ -3,7 +3,7 @@
 import itertools
 import unittest
 
-from stepdigits.digits import count_changes, element_at
+from stepdigits.digits import count_changes
 from tests import helper
 
 
@@ -55,27 +55,6 @@ class Order(unittest.TestCase):
         self.assertEqual(counted(11, [2, 3, 2]), [1, 4, 6])
         self.assertEqual(counted(23, [4, 2, 3]), [3, 4, 16])
         self.assertEqual(counted(23, [3, 2, 4]), [2, 3, 18])
-
-
-class Requirements(unittest.TestCase):
-    def test_each_step_changes_exactly_one_digit(self):
-        for radices in helper.many_radices(3):
-            for steps in range(len(helper.in_order(radices))):
-                self.assertEqual(sum(counted(steps, radices)), steps, (steps, radices))
-
-    def test_the_first_digit_in_all_steps_together(self):
-        for radices in helper.many_radices(4):
-            all_steps = len(helper.in_order(radices)) - 1
-            self.assertEqual(count_changes(0, all_steps, radices), [radices[0] - 1], radices)
-
-    def test_a_step_counts_where_element_at_tells_another_digit(self):
-        for radices in helper.many_radices(2):
-            wanted = [0] * len(radices)
-            for steps in range(1, len(helper.in_order(radices))):
-                before, after = element_at(steps - 1, radices)[1:], element_at(steps, radices)[1:]
-                for digit in range(len(radices)):
-                    wanted[digit] += int(before[digit] != after[digit])
-                self.assertEqual(counted(steps, radices), wanted, (steps, radices))
 
 
 class Edges(unittest.TestCase):

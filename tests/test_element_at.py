@@ -14,10 +14,6 @@ def listed(radices, size):
     return found
 
 
-def steps_between(first, second):
-    return sum(abs(a - b) for a, b in zip(first, second, strict=True))
-
-
 class Examples(unittest.TestCase):
     def test_element_of_the_example(self):
         self.assertEqual(element_at(3, [2, 3]), [2, 1, 2])
@@ -51,7 +47,7 @@ class Order(unittest.TestCase):
         for radices in helper.many_radices(3):
             found = listed(radices, len(helper.in_order(radices)))
             for before, after in zip(found, found[1:]):
-                self.assertEqual(steps_between(before, after), 1, (radices, before, after))
+                self.assertEqual(helper.digits_apart(before, after), 1, (radices, before, after))
 
 
 class Edges(unittest.TestCase):

@@ -1,8 +1,8 @@
-"""index_of: the order, the inverse of element_at, the edges, the refusals."""
+"""index_of: the order, the edges, the refusals."""
 
 import unittest
 
-from stepdigits.digits import element_at, index_of
+from stepdigits.digits import index_of
 from tests import helper
 
 
@@ -32,20 +32,6 @@ class Order(unittest.TestCase):
         self.assertEqual(index_of([2, 3, 2], [1, 1, 1]), [9])
         self.assertEqual(index_of([2, 3, 2], [1, 0, 1]), [10])
         self.assertEqual(index_of([2, 3, 2], [1, 0, 0]), [11])
-
-
-class Ranking(unittest.TestCase):
-    def test_from_index_to_element_and_back(self):
-        for radices in helper.many_radices(3):
-            for index in range(len(helper.in_order(radices))):
-                element = element_at(index, radices)[1:]
-                self.assertEqual(index_of(radices, element), [index], (radices, element))
-
-    def test_from_element_to_index_and_back(self):
-        for radices in helper.many_radices(3):
-            for element in helper.in_order(radices):
-                index = index_of(radices, element)[0]
-                self.assertEqual(element_at(index, radices), [len(radices)] + element, (radices, element))
 
 
 class Edges(unittest.TestCase):

@@ -63,8 +63,7 @@ class Requirements(unittest.TestCase):
         for radices in helper.many_radices(3):
             for element in helper.in_order(radices)[:-1]:
                 following = successor(radices, element)[2:]
-                distance = sum(abs(a - b) for a, b in zip(element, following, strict=True))
-                self.assertEqual(distance, 1, (radices, element))
+                self.assertEqual(helper.digits_apart(element, following), 1, (radices, element))
 
     def test_the_index_grows_by_1(self):
         for radices in helper.many_radices(3):
